@@ -1,0 +1,70 @@
+"""The names, the parameters and the places of what the interface lists."""
+
+import importlib
+import inspect
+import unittest
+
+from nevercaught.papers import Denial, Paper
+
+FUNCTIONS = {
+    "checks": ("is_integer(value)", "is_within(value, least, most)", "is_square(value)", "are_squares(value)",
+               "squares_of(values)", "around(square)"),
+    "papers": ("fixed(value)",),
+    "walls": ("length_of(wall)", "burnt_in(wall, burnt)", "cost_of(wall, burnt)", "is_better(one, other, burnt)",
+              "united(one, other)", "shared(one, other)", "clipped(wall, column, low, high)", "wall_text(wall)",
+              "wall_read(text)"),
+    "parts": ("parts_of(wall)", "rooted(wall)", "holes_of(wall)", "filled(wall)"),
+    "lines": ("beside(corner, heading)", "next_step(wall, corner, heading)", "step_back(wall, corner, heading)",
+              "steps_on(wall, corner, heading, many)", "whole_line(wall)"),
+    "boards": ("fits(board, wall)", "box_of(board)"),
+    "best": ("best_for(board)", "cheapest_cost(board)"),
+    "check_best": ("shows_best(board, value)",),
+}
+CLASSES = {
+    "papers": ("Paper(word, *parts)", "Denial(word, *parts)"),
+    "boards": ("Board(held, passed, burnt)",),
+    "best": ("Best(squares, right, up)",),
+}
+METHODS = {
+    ("papers", "Paper"): ("__eq__",),
+    ("papers", "Denial"): ("__eq__",),
+    ("boards", "Board"): ("__eq__", "is_passed"),
+}
+
+
+def listed(table):
+    """Modules, names and what is listed of them."""
+    for module, rows in table.items():
+        for row in rows:
+            yield importlib.import_module("nevercaught." + module), row[:row.index("(")], row
+
+
+class Interface(unittest.TestCase):
+    def test_functions(self):
+        for module, name, row in listed(FUNCTIONS):
+            found = getattr(module, name)
+            self.assertTrue(inspect.isfunction(found))
+            self.assertEqual((found.__module__, name + str(inspect.signature(found))), (module.__name__, row))
+
+    def test_classes(self):
+        for module, name, row in listed(CLASSES):
+            found = getattr(module, name)
+            self.assertTrue(inspect.isclass(found))
+            self.assertEqual((found.__module__, name + str(inspect.signature(found))), (module.__name__, row))
+
+    def test_methods_stand_in_their_class(self):
+        for (module, name), methods in METHODS.items():
+            found = getattr(importlib.import_module("nevercaught." + module), name)
+            for method in methods:
+                self.assertIn(method, vars(found))
+
+    def test_papers_are_below_paper_and_denials_below_denial(self):
+        denials = {"Denial"}
+        for module, name, _ in listed(CLASSES):
+            found = getattr(module, name)
+            self.assertEqual(issubclass(found, Paper), name != "Board")
+            self.assertEqual(issubclass(found, Denial), name in denials)
+
+
+if __name__ == "__main__":
+    unittest.main()
