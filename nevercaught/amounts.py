@@ -15,9 +15,8 @@ class Amounts:
     def __init__(self, grid, net):
         self.grid = grid
         self.net = net
-        many = grid.columns[-1][0] + grid.columns[-1][1]
-        self.right = [[0] * many for _ in range(grid.low, grid.high + 1)]
-        self.up = [[0] * many for _ in range(grid.low - 1, grid.high + 1)]
+        self.right = [[0] * grid.wide for _ in range(grid.tall)]
+        self.up = [[0] * grid.wide for _ in range(grid.tall + 1)]
 
 
 def amounts_of(grid, net):
@@ -34,9 +33,9 @@ def amounts_of(grid, net):
 
 
 def gone(amounts, row, at, d):
-    """How much goes out of a cell by its edge d."""
+    """How much goes out of a cell by its edge d, which does not lead to the left."""
     grid, net = amounts.grid, amounts.net
-    size = grid.rows[row][1] if d < 2 else grid.columns[at][1]
+    size = grid.rows[row][1] if d == 0 else grid.columns[at][1]
     return grid.unit * size - net.room[4 * node_of(net, row, at) + d]
 
 

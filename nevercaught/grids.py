@@ -15,7 +15,8 @@ class Grid:
         column, low, high = box
         self.unit = unit_of(board)
         self.low = low
-        self.high = high
+        self.wide = column + 1
+        self.tall = high - low + 1
         self.marks = marks_of(board, box)
         down = {x: [] for x in range(column + 1)}
         along = {y: [] for y in range(low, high + 1)}

@@ -50,8 +50,8 @@ def first_room(grid):
 
 
 def first_rest(marks, grid):
-    """For each node that gives: how much more may go out of it. Held ones may give more than ever can go."""
-    most = 8 * grid.unit * (len(grid.columns) + grid.columns[-1][0] + 2) * (grid.high - grid.low + 3)
+    """For each node that gives: how much more may go out of it. Held ones have more than can go by their sides."""
+    most = 9 * grid.unit * grid.wide * grid.tall
     rest = {}
     for node, mark in enumerate(marks):
         if mark == BURNT:
