@@ -1,6 +1,6 @@
-"""What is an integer, a square, a list of squares; and how arguments of these kinds are taken."""
+"""What is an integer, a square, a list of squares, a row of burns; and how arguments of these kinds are taken."""
 
-from nevercaught.errors import BadNumber, BadSquare, BadSquares, Misfit
+from nevercaught.errors import BadBurns, BadNumber, BadSquare, BadSquares, Misfit
 
 
 def is_integer(value):
@@ -61,6 +61,15 @@ def taken_squares(squares, part):
     if not are_squares(squares):
         raise BadSquares(part)
     return tuple(sorted([(square[0], square[1]) for square in squares]))
+
+
+def taken_burns(burns, part):
+    """The row of burns that was passed for this parameter, as a tuple."""
+    if not isinstance(burns, (list, tuple)):
+        raise BadBurns(part)
+    if not all([burn is None or is_square(burn) for burn in burns]):
+        raise BadBurns(part)
+    return tuple([None if burn is None else (burn[0], burn[1]) for burn in burns])
 
 
 def taken_number(number, least, most, part):

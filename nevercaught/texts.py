@@ -1,5 +1,6 @@
 """The items of texts."""
 
+from nevercaught.checks import is_within
 from nevercaught.errors import BadText
 
 DIGITS = "0123456789"
@@ -33,10 +34,10 @@ def integer_at(items, at):
     return number
 
 
-def square_at(items, at, before):
-    """The right square written from this index on, which comes behind the square before, if there is one."""
+def square_at(items, at, before, least):
+    """The square written from this index on, behind the square before, if there is one; least bounds its x, or None."""
     x = integer_at(items, at)
-    if x < 0 or before is not None and x < before[0]:
+    if not is_within(x, least, None) or before is not None and x < before[0]:
         raise BadText(0, at)
     y = integer_at(items, at + 1)
     if before is not None and (x, y) <= before:
@@ -45,5 +46,5 @@ def square_at(items, at, before):
 
 
 def square_text(square):
-    """The two integers of a square, with a blank between."""
+    """The two integers of a square, or of another pair, with a blank between."""
     return f"{square[0]} {square[1]}"

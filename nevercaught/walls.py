@@ -69,11 +69,11 @@ def wall_read(text):
         if len(items) > 1:
             raise BadText(0, 1)
         return ()
-    squares = [square_at(items, 0, None)]
+    squares = [square_at(items, 0, None, 0)]
     for at in range(2, len(items), 3):
         if items[at] != "/":
             raise BadText(0, at)
-        squares.append(square_at(items, at + 1, squares[-1]))
+        squares.append(square_at(items, at + 1, squares[-1], 0))
     return tuple(squares)
 
 

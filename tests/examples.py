@@ -107,4 +107,74 @@ True
 [True, False, False]
 ''',
     ),
+    (
+        "stands",
+        '''\
+>>> first = flown(start(), [(0, 1)])
+>>> [str(start()), first.turn, first.square, first.corner, first.heading, first.wall, first.passed, first.burnt]
+['1 0 0 0 0 1 0 1 / / 0 0 /', 1, (1, 1), (1, 2), (0, 1), ((0, 1),), ((0, 0), (1, 1)), ((0, 1),)]
+>>> [way_of(start()), way_of(first), flown(start(), []).square, flown(first, [None]).square]
+[(((0, 2), (0, 1), (0, 1)), ((0, 3), (0, 1), (0, 2))), (((0, 2), (-1, 0), (0, 2)), ((0, 3), (0, 1), (0, 2))), (0, 2), (0, 2)]
+>>> [str(first), Stand.read(str(first)) == first, flown(first, [[1, 1]]) == flown(first, ())]
+['1 1 1 1 1 2 0 1 / 0 1 / 0 0 1 1 / 0 1', True, True]
+>>> hook = Stand(1, 7, (0, 2), (0, 3), (0, 1), [(0, 3), (1, 3), (1, 2)], [(0, 2), (0, 1)], [(1, 2), (1, 3), (0, 3)])
+>>> [flown(hook, []).square, flown(hook, []).corner, flown(hook, []).heading, way_of(hook)[0], flown(hook, [(0, 2)]).burnt == hook.burnt]
+[(0, 2), (1, 2), (0, -1), ((1, 3), (1, 0), (0, 2)), True]
+>>> second = flown(start(2), [(1, 5), (1, 6)])
+>>> [second.pace, second.square, second.wall, flown(second, [None]).square, len(way_of(second))]
+[2, (0, 4), ((0, 5), (0, 6), (1, 5), (1, 6)), (2, 6), 4]
+>>> Stand(1, 0, (0, 0), (0, 1), (0, 2), [], [(0, 0)], [])
+raises BadStand('heading')
+>>> Stand(1, 0, (1, 0), (0, 1), (0, 1), [], [(1, 0)], [])
+raises Misfit('square')
+>>> Stand(1, 1, (0, 2), (0, 3), (0, 1), [(0, -1)], [(0, 2)], [])
+raises Misfit('wall')
+>>> flown(start(), (0, 3))
+raises BadBurns('burns')
+>>> flown(start(), [(0, 3), None])
+raises TooMany('burns', 1)
+>>> Stand.read("1 0 0 0 0 1 1 1 / / 0 0 /")
+raises BadText(0, 7)
+''',
+    ),
+    (
+        "flights",
+        '''\
+>>> burns = [(1, 5), (1, 6), None]
+>>> [[stand.wall for stand in flight(burns).stands[:3]], [best.squares for best in flight(burns).walls[:2]], len(flight(burns).walls)]
+[[(), (), ((0, 5), (0, 6), (1, 5), (1, 6))], [(), ((0, 5), (0, 6), (1, 5), (1, 6))], 3]
+>>> [where(burns), where([]), where([(0, 3), [0, 3], (0, 1)]), where(burns, 2), flight(burns).stands[3].corner]
+[((0, 0), (0, 2), (0, 4), (1, 4)), ((0, 0),), ((0, 0), (0, 2), (1, 3), (0, 4)), ((0, 0), (0, 4), (2, 6)), (2, 5)]
+>>> [board.passed for board in boards_of(burns)[:2]], boards_of(burns)[2] == Board(((0, 5), (0, 6), (1, 5), (1, 6)), [(0, 0), (0, 1), (0, 2), (0, 3), (0, 4)], burns[:2])
+([((0, 0),), ((0, 0), (0, 1), (0, 2))], True)
+>>> flight([(0, 1), 5])
+raises BadBurns('burns')
+''',
+    ),
+    (
+        "check_flights",
+        '''\
+>>> told = flight(burns)
+>>> [shows_flight(burns, told), shows_flight(burns, told, 2), shows_flight(burns[:2], told), shows_flight(burns[:2], Flight(list(told.stands[:3]), told.walls[:2]))]
+[True, False, False, True]
+>>> [shows_flight(burns, Flight(told.stands, told.walls[::-1])), shows_flight(burns, Flight(told.stands[:3] + (flown(told.stands[2], [(9, 9)]),), told.walls))]
+[False, False]
+''',
+    ),
+    (
+        "pockets",
+        '''\
+>>> nook, gate = [(0, 4), (1, 4), (1, 3), (1, 2)], [(0, 1), (0, 3), (1, 3), (1, 2)]
+>>> [meetings_of(nook), shut_in(nook, 2, 6), closed_at(nook, 2, 6), shut_in(nook, 3, 5)]
+[((2, 6), (3, 4), (3, 5), (4, 5)), ((0, 3),), ((0, 2), (0, 3), (0, 4), (1, 2), (1, 3), (1, 4)), ()]
+>>> [length_of(nook), length_of(closed_at(nook, 2, 6)), length_of(closed_at(nook, 3, 5))]
+[8, 4, 6]
+>>> [whole_line(gate)[2][2], shut_in(gate, 2, 7), length_of(gate), length_of(closed_at(gate, 2, 7)), meetings_of([])]
+[(1, 1), ((0, 2),), 8, 4, ()]
+>>> closed_at(nook, 2, 5)
+raises Misfit('square')
+>>> shut_in(nook, 6, 6)
+raises BadNumber('other')
+''',
+    ),
 )

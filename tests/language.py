@@ -73,8 +73,10 @@ class Look:
                     child.parent = node
         nodes = [node for tree in self.trees.values() for node in ast.walk(tree)]
         self.classes = {node.name for node in nodes if isinstance(node, ast.ClassDef)}
-        self.methods = {node.name for node in nodes if isinstance(node, ast.FunctionDef)
-                        and isinstance(node.parent, ast.ClassDef)}
+        methods = [node for node in nodes if isinstance(node, ast.FunctionDef) and isinstance(node.parent, ast.ClassDef)]
+        self.methods = {node.name for node in methods}
+        self.plain_methods = {node.name for node in methods if not node.decorator_list}
+        self.attributes = {node.attr for node in nodes if isinstance(node, ast.Attribute) and isinstance(node.ctx, ast.Store)}
         self.errors = {node.name for node in nodes if isinstance(node, ast.ClassDef) and self.is_error(node, nodes)}
 
     def is_error(self, node, nodes):
@@ -209,7 +211,7 @@ def rows(look, name):
             look.tell("L10", name, number, "tab")
         if not all(" " <= sign <= "~" for sign in line.replace("\t", "")):
             look.tell("L14", name, number, "character")
-        if re.search(r"(?<![A-Za-z0-9])_wall|_WallAttr", line):
+        if "_wall" in line or "_WallAttr" in line:
             look.tell("L12", name, number, "word")
 
 
@@ -373,6 +375,7 @@ def check_classes(look, name, node):
                 look.tell("L18", name, inner.lineno, "method twice")
             met.add(inner.name)
             methods_of(look, name, node, inner)
+            bare_methods(look, name, inner)
         elif isinstance(inner, ast.Assign):
             if not is_plain(inner.value, set()):
                 look.tell("L5", name, inner.lineno, "class value")
@@ -403,6 +406,16 @@ def methods_of(look, name, holder, node):
         if stored and ast.unparse(inner.value) == "self" and inner.attr in {
                 other.name for other in holder.body if isinstance(other, ast.FunctionDef) and not other.decorator_list}:
             look.tell("L18", name, inner.lineno, "method and attribute: " + inner.attr)
+
+
+def bare_methods(look, name, node):
+    """Looks at a static or class method."""
+    if not {"staticmethod", "classmethod"} & {ast.unparse(found) for found in node.decorator_list}:
+        return
+    if node.name in METHODS | look.attributes | look.plain_methods:
+        look.tell("L5", name, node.lineno, "name of a static or class method: " + node.name)
+    if any(isinstance(inner, ast.Name) and inner.id == "super" for inner in ast.walk(node)):
+        look.tell("L5", name, node.lineno, "super in a static or class method")
 
 
 def check_statements(look, name, node):
@@ -457,6 +470,8 @@ def check_values(look, name, node):
 
 def check_builtins(look, name, node):
     if not isinstance(node, ast.Name) or not isinstance(node.ctx, ast.Load) or not hasattr(builtins, node.id):
+        return
+    if isinstance(node.parent, ast.FunctionDef) and node in node.parent.decorator_list:
         return
     allowed = node.id in BUILTINS or node.id == "print" and name == "__main__.py"
     if not allowed and not node.id.startswith("__"):

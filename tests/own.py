@@ -5,6 +5,8 @@ import random
 # Values of every kind that are neither numbers, lists nor tuples.
 STRANGE = (None, True, False, "12", "", b"ab", 1.5, {}, {"a": 1}, {1, 2}, object(), len, range(2), int)
 NO_SQUARES = (*STRANGE, 0, 7, (), [], (1,), [1, 2, 3], ("1", "2"), (True, 0), (0, False), (None, 1), (1.0, 2), ((1, 2), 3))
+NO_BURNS = (*STRANGE, 0, 7, (1, 2), [1, 2], [(1, 2), 5], [(1, 2, 3)], [None, ()], [True], [(1, True)],
+            [[(1, 2)]], [[None]], "ab", [None, "ab"], ((1, 2), None, 1.5), [("a", "b")])
 NO_LISTS = (*STRANGE, 0, 7, (1, 2), [1, 2], [(1, 2), None], [(1, 2), 5], [(1, 2, 3)], [(1,)], [()], [(1, True)],
             [(1, 2), [1, 2]], ((3, 4), (0, 1), (3, 4)), [("a", "b")], [[(1, 2)]], ["ab"], [(1.0, 2)])
 
@@ -129,6 +131,81 @@ def has_form(board, paper):
     return type(paper.squares) is tuple and list(paper.squares) == sorted(set(paper.squares))
 
 
+def sides(corner, heading):
+    """The squares beside a step, by its middle: half a square to its left and to its right."""
+    (x, y), (a, b) = corner, heading
+    left = (2 * x - a - b, 2 * y - b + a)
+    right = (2 * x - a + b, 2 * y - b - a)
+    return (left[0] // 2, left[1] // 2), (right[0] // 2, right[1] // 2)
+
+
+def following(wall):
+    """All steps that follow a wall, from one row below to one above."""
+    ground = set(wall)
+    rows = [0, *[y for _, y in wall]]
+    found = []
+    for x in range(0, max([0, *[x for x, _ in wall]]) + 2):
+        for y in range(min(rows) - 1, max(rows) + 3):
+            for heading in ((0, 1), (1, 0), (0, -1), (-1, 0)):
+                left, right = sides((x, y), heading)
+                if (left[0] < 0 or left in ground) and right[0] >= 0 and right not in ground:
+                    found.append(((x, y), heading, right))
+    return found
+
+
+def next_of(wall, step):
+    """The next step, as the document tells it."""
+    (x, y), (a, b), _ = step
+    left, right = sides((x + a, y + b), (a, b))
+    if left[0] >= 0 and left not in wall:
+        way = (-b, a)
+    elif right[0] >= 0 and right not in wall:
+        way = (a, b)
+    else:
+        way = (b, -a)
+    corner = (x + way[0], y + way[1])
+    return (corner, way, sides(corner, way)[1])
+
+
+def walk(wall, corner, heading, many):
+    """So many steps behind that of this corner and heading."""
+    ground = {tuple(square) for square in wall}
+    steps = [(tuple(corner), tuple(heading), None)]
+    for _ in range(many):
+        steps.append(next_of(ground, steps[-1]))
+    return steps[1:]
+
+
+def line(wall):
+    """The steps of the line of a wall, from one row below it to two rows above it."""
+    rows = [0, *[y for _, y in wall]]
+    steps = walk(wall, (0, min(rows) - 1), (0, 1), 1)
+    while steps[-1][0] != (0, max(rows) + 3):
+        steps += walk(wall, *steps[-1][:2], 1)
+    return steps
+
+
+def game(burns, pace, choose):
+    """The stands, as tuples, and the boards of whoever takes at each turn the wall that choose tells of turn and board."""
+    square, corner, heading, wall, passed, burnt = (0, 0), (0, 1), (0, 1), (), {(0, 0)}, set()
+    stands, boards = [(pace, 0, square, corner, heading, wall, ((0, 0),), ())], []
+    for turn in range(1, -(-len(burns) // pace) + 1):
+        burnt |= {tuple(b) for b in burns[pace * (turn - 1):pace * turn] if b is not None and tuple(b) != square}
+        board = Lists(tuple(wall), tuple(sorted(passed)), tuple(sorted(burnt)))
+        wall = tuple(sorted(choose(turn, board)))
+        steps = walk(wall, corner, heading, 2 * pace)
+        corner, heading, square = steps[-1]
+        passed |= {step[2] for step in steps}
+        boards.append(board)
+        stands.append((pace, turn, square, corner, heading, wall, tuple(sorted(passed)), tuple(sorted(burnt))))
+    return stands, boards
+
+
+def parts(stand):
+    """The parts of a Stand."""
+    return (stand.pace, stand.turn, stand.square, stand.corner, stand.heading, stand.wall, stand.passed, stand.burnt)
+
+
 def random_lists(source, most_free=10):
     """Held, passed and burnt squares of a small board, with few free squares."""
     while True:
@@ -144,11 +221,35 @@ def random_lists(source, most_free=10):
             return lists
 
 
+class Sore:
+    """A value that can be neither compared, measured, walked along nor turned into anything."""
+
+    def refuse(self, *values):
+        raise RuntimeError("touched")
+
+    __eq__ = __ne__ = __lt__ = __le__ = __gt__ = __ge__ = __len__ = __bool__ = __iter__ = __getitem__ = refuse
+    __int__ = __index__ = __add__ = __sub__ = __neg__ = __contains__ = __call__ = refuse
+    __hash__ = None
+
+
 class Lists:
     """The three lots of squares of a board, without the package."""
 
     def __init__(self, held, passed, burnt):
         self.held, self.passed, self.burnt = held, passed, burnt
+
+
+def random_parts(source, wide=3, tall=4):
+    """The parts of a Stand that need not have come of a game."""
+    low = source.choice((-2, 0, 1, 3))
+    wall = [s for s in random_wall(source, wide, tall, low) if s[0] > 0 or s[1] > 0]
+    corner, heading, square = source.choice(following(wall))
+    squares = [(x, y) for x in range(-1, wide + 1) for y in range(low - 1, low + tall + 1)]
+    share, fire = source.choice((0, 0.2, 0.6)), source.choice((0.05, 0.2, 0.4))
+    passed = {square, *[s for s in squares if s not in wall and source.random() < share]}
+    burnt = [s for s in squares if source.random() < fire]
+    pace = source.choice((1, 1, 1, 2, 3, 12))
+    return (pace, source.randint(0, 30), square, corner, heading, tuple(sorted(wall)), tuple(sorted(passed)), tuple(sorted(burnt)))
 
 
 def random_wall(source, wide=4, tall=5, low=-2, share=None):

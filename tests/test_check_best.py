@@ -4,22 +4,12 @@ import copy
 import unittest
 
 import own
+from own import Sore
 from nevercaught.best import Best, best_for
 from nevercaught.boards import Board
 from nevercaught.check_best import shows_best
 from nevercaught.errors import BadBoard
 from nevercaught.papers import Denial, Paper
-
-
-class Sore:
-    """A value that can be neither compared, measured, walked along nor turned into anything."""
-
-    def refuse(self, *values):
-        raise RuntimeError("touched")
-
-    __eq__ = __ne__ = __lt__ = __le__ = __gt__ = __ge__ = __len__ = __bool__ = __iter__ = __getitem__ = refuse
-    __int__ = __index__ = __add__ = __sub__ = __neg__ = __contains__ = __call__ = refuse
-    __hash__ = None
 
 
 class Below(Best):

@@ -5,6 +5,7 @@ import inspect
 import unittest
 
 from nevercaught.papers import Denial, Paper
+from nevercaught.stands import Stand
 
 FUNCTIONS = {
     "checks": ("is_integer(value)", "is_within(value, least, most)", "is_square(value)", "are_squares(value)",
@@ -19,17 +20,26 @@ FUNCTIONS = {
     "boards": ("fits(board, wall)", "box_of(board)"),
     "best": ("best_for(board)", "cheapest_cost(board)"),
     "check_best": ("shows_best(board, value)",),
+    "stands": ("start(pace=1)", "flown(stand, burns)", "way_of(stand)"),
+    "flights": ("flight(burns, pace=1)", "where(burns, pace=1)", "boards_of(burns, pace=1)"),
+    "check_flights": ("shows_flight(burns, value, pace=1)",),
+    "pockets": ("meetings_of(wall)", "shut_in(wall, one, other)", "closed_at(wall, one, other)"),
 }
 CLASSES = {
     "papers": ("Paper(word, *parts)", "Denial(word, *parts)"),
     "boards": ("Board(held, passed, burnt)",),
     "best": ("Best(squares, right, up)",),
+    "stands": ("Stand(pace, turn, square, corner, heading, wall, passed, burnt)",),
+    "flights": ("Flight(stands, walls)",),
 }
 METHODS = {
     ("papers", "Paper"): ("__eq__",),
     ("papers", "Denial"): ("__eq__",),
     ("boards", "Board"): ("__eq__", "is_passed"),
+    ("stands", "Stand"): ("__eq__", "__str__", "read"),
 }
+PAPERS = ("Paper", "Denial", "Best", "Flight")
+DENIALS = ("Denial",)
 
 
 def listed(table):
@@ -59,11 +69,20 @@ class Interface(unittest.TestCase):
                 self.assertIn(method, vars(found))
 
     def test_papers_are_below_paper_and_denials_below_denial(self):
-        denials = {"Denial"}
         for module, name, _ in listed(CLASSES):
             found = getattr(module, name)
-            self.assertEqual(issubclass(found, Paper), name != "Board")
-            self.assertEqual(issubclass(found, Denial), name in denials)
+            self.assertEqual(issubclass(found, Paper), name in PAPERS)
+            self.assertEqual(issubclass(found, Denial), name in DENIALS)
+
+    def test_read_is_asked_of_the_class(self):
+        self.assertIsInstance(vars(Stand)["read"], (staticmethod, classmethod))
+        self.assertEqual(str(inspect.signature(Stand.read)), "(text)")
+
+    def test_methods_take_what_is_listed(self):
+        for (module, name), methods in METHODS.items():
+            if "burns" in methods:
+                found = getattr(importlib.import_module("nevercaught." + module), name)
+                self.assertEqual(str(inspect.signature(found.burns)), "(self, stand)")
 
 
 if __name__ == "__main__":

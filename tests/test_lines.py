@@ -4,6 +4,7 @@ import copy
 import unittest
 
 import own
+from own import following, next_of, sides
 from nevercaught.errors import BadNumber, BadSquare, BadSquares, Misfit
 from nevercaught.lines import beside, next_step, step_back, steps_on, whole_line
 from nevercaught.parts import filled, rooted
@@ -13,42 +14,6 @@ FAR = 10 ** 59
 UP, RIGHT, DOWN, LEFT = (0, 1), (1, 0), (0, -1), (-1, 0)
 NO_HEADINGS = (*own.NO_SQUARES, (0, 0), (1, 1), (0, 2), [0, -2], (-1, -1), (FAR, 0))
 HOOK = [(1, 3), (0, 2), [1, 2]]
-
-
-def sides(corner, heading):
-    """The squares beside a step, by its middle: half a square to its left and to its right."""
-    (x, y), (a, b) = corner, heading
-    left = (2 * x - a - b, 2 * y - b + a)
-    right = (2 * x - a + b, 2 * y - b - a)
-    return (left[0] // 2, left[1] // 2), (right[0] // 2, right[1] // 2)
-
-
-def following(wall):
-    """All steps that follow a wall, from one row below to one above."""
-    ground = set(wall)
-    rows = [0, *[y for _, y in wall]]
-    found = []
-    for x in range(0, max([0, *[x for x, _ in wall]]) + 2):
-        for y in range(min(rows) - 1, max(rows) + 3):
-            for heading in (UP, RIGHT, DOWN, LEFT):
-                left, right = sides((x, y), heading)
-                if (left[0] < 0 or left in ground) and right[0] >= 0 and right not in ground:
-                    found.append(((x, y), heading, right))
-    return found
-
-
-def next_of(wall, step):
-    """The next step, as the document tells it."""
-    (x, y), (a, b), _ = step
-    left, right = sides((x + a, y + b), (a, b))
-    if left[0] >= 0 and left not in wall:
-        way = (-b, a)
-    elif right[0] >= 0 and right not in wall:
-        way = (a, b)
-    else:
-        way = (b, -a)
-    corner = (x + way[0], y + way[1])
-    return (corner, way, sides(corner, way)[1])
 
 
 class Steps(unittest.TestCase):
