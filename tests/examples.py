@@ -177,4 +177,71 @@ raises Misfit('square')
 raises BadNumber('other')
 ''',
     ),
+    (
+        "blames",
+        '''\
+>>> cup = ((0, 10), (1, 8), (1, 9), (1, 10))
+>>> burns, walls = [(0, 10), (1, 10), (1, 9), (1, 8), None, (0, 8)], [(), (), (), (), cup, cup]
+>>> [[stand.square for stand in wall_run(burns, walls)], costs_of(burns, walls)[3:], rises_of(burns, walls), caught_at(burns, walls)]
+[[(0, 0), (0, 2), (0, 4), (0, 6), (0, 8), (0, 9), (0, 8)], ((0, 0), (0, 0), (0, 0)), (), 6]
+>>> [first_passed(burns, walls, square) for square in ((0, 8), (0, -3), (5, 5))], left_out(burns, walls)[2:5]
+([4, 0, None], (((0, 10),), ((0, 10),), ()))
+>>> [blame(burns[:5], walls[:5]), costs_of([None], [[(0, 3)]]), rises_of([None], [[(0, 3)]]), caught_at([(0, 2)], [[]])]
+[None, ((0, 2),), (1,), 1]
+>>> row = [(0, 3), (0, 4), None, (1, 3), (1, 6)]
+>>> [[stand.square for stand in wall_run(row, [row[:2]] * 3, 2)], costs_of(row, [row[:2]] * 3, pace=2)]
+[[(0, 0), (1, 3), (0, 6), (0, 10)], ((0, -2), (-2, -2), (-2, -2))]
+>>> wall_run([None, None], [[(0, 5)], []])
+raises Misfit('walls')
+>>> blame(burns, [(), 5])
+raises BadSquares('walls')
+''',
+    ),
+    (
+        "check_blames",
+        '''\
+>>> block = [(0, 8), (0, 9), (0, 10), (1, 8), (1, 9), (1, 10)]
+>>> [shows_blame(burns, walls, Blamed(turn, block)) for turn in (1, 2, 4, 5)], shows_blame(burns, walls, blame(burns, walls))
+([False, True, True, False], True)
+>>> [shows_blame(burns, walls, Blamed(turn, cup)) for turn in (3, 4, 5)], shows_blame(burns, walls, Blamed(1, ((0, 10),))), shows_blame([None], [[(0, 3)]], Blamed(1, []))
+([False, True, False], True, True)
+''',
+    ),
+    (
+        "burners",
+        '''\
+>>> [Told([(0, 5)]).burns(start()), Told([(0, 5)]).burns(start(2)), Told([]).burns(start()), Ahead(6).burns(start()), Ahead(1).burns(start(2)), Ring((0, 5), 1).burns(start(3))]
+[((0, 5),), ((0, 5), None), (None,), ((0, 6),), ((0, 1), (0, 2)), ((-1, 4), (-1, 5), (-1, 6))]
+>>> [Block((0, 0), 2).burns(start()), Block((0, 0), 1).burns(start(2)), Looker([(1, 1), (0, 1)], 0).burns(start())]
+[((0, 1),), (None, None), ((0, 1),)]
+>>> chase, pairs = match(Ahead(2), 2), match(Ahead(4), 1, 2)
+>>> [[stand.square for stand in chase.stands], chase == flight([(0, 2), (0, 3)]), [stand.square for stand in pairs.stands], len(match(Told([]), 3).stands)]
+[[(0, 0), (0, 1), (1, 3)], True, [(0, 0), (0, 3)], 4]
+>>> Looker([], 0)
+raises BadSquares('tries')
+>>> match(None, 1)
+raises BadBurns('burner')
+''',
+    ),
+    (
+        "strips",
+        '''\
+>>> line, pair = Strip(1, 1, 2), Strip(2, 1, 2)
+>>> [strip_burn(line, [], (0, 0)), strip_burn(line, [(0, 2)], (0, -1)), strip_burn(line, [(0, 2), (0, -2)], [0, -1]), may_fly(line, [(0, 2)], (0, 0)), may_fly(pair, [(0, 1)], (1, 1))]
+[(0, 2), (0, -2), (0, 0), ((0, -1), (0, 1)), ((0, 0), (0, 2), (1, 0), (1, 2))]
+>>> [strip_game(line, 0, [(0, -1), (0, 0)]), strip_game(pair, 0, [(0, -1), (1, -2)]), strip_game(pair, 1, [])]
+[((0, 2), (0, -2), (0, -1)), ((0, 2), (0, -2)), ((0, 2),)]
+>>> [passage(line, 0) == Shut(4), passage(Strip(1, 1, 1), 0) == Through([(0, -1)]), bool(passage(pair, 1)), passage(Strip(2, 2, 9), 1).turns]
+[True, True, True, 41]
+>>> strip_game(line, 0, [(0, 2)])
+raises Misfit('flights')
+''',
+    ),
+    (
+        "check_strips",
+        '''\
+>>> [shows_passage(pair, 0, Through([(0, -1), (1, -2)])), shows_passage(pair, 0, Through([(0, -1), (0, -2)])), shows_passage(pair, 0, Shut(7)), shows_passage(line, 0, Shut(4)), shows_passage(line, 0, Through([(0, -1), (0, -2)]))]
+[True, False, False, True, False]
+''',
+    ),
 )

@@ -42,7 +42,7 @@ class Examples(unittest.TestCase):
                 with self.subTest(module=module, code=code):
                     self.assertEqual(answer_to(code, names), told)
                 count += 1
-        self.assertEqual(count, 64)
+        self.assertEqual(count, 88)
 
 
 if __name__ == "__main__":

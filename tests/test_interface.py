@@ -24,6 +24,14 @@ FUNCTIONS = {
     "flights": ("flight(burns, pace=1)", "where(burns, pace=1)", "boards_of(burns, pace=1)"),
     "check_flights": ("shows_flight(burns, value, pace=1)",),
     "pockets": ("meetings_of(wall)", "shut_in(wall, one, other)", "closed_at(wall, one, other)"),
+    "blames": ("wall_run(burns, walls, pace=1)", "costs_of(burns, walls, pace=1)", "rises_of(burns, walls, pace=1)",
+               "left_out(burns, walls, pace=1)", "first_passed(burns, walls, square, pace=1)", "caught_at(burns, walls, pace=1)",
+               "blame(burns, walls, pace=1)"),
+    "check_blames": ("shows_blame(burns, walls, value, pace=1)",),
+    "burners": ("match(burner, turns, pace=1)",),
+    "strips": ("may_fly(strip, burnt, square)", "strip_burn(strip, burnt, square)", "strip_game(strip, column, flights)",
+               "passage(strip, column)"),
+    "check_strips": ("shows_passage(strip, column, value)",),
 }
 CLASSES = {
     "papers": ("Paper(word, *parts)", "Denial(word, *parts)"),
@@ -31,15 +39,26 @@ CLASSES = {
     "best": ("Best(squares, right, up)",),
     "stands": ("Stand(pace, turn, square, corner, heading, wall, passed, burnt)",),
     "flights": ("Flight(stands, walls)",),
+    "blames": ("Blamed(turn, squares)",),
+    "burners": ("Burner()", "Told(row)", "Ahead(steps)", "Ring(middle, size)", "Block(corner, wide)", "Looker(tries, deep)",
+                "Asked(ask)"),
+    "strips": ("Strip(wide, power, far)", "Through(flights)", "Shut(turns)"),
 }
 METHODS = {
     ("papers", "Paper"): ("__eq__",),
     ("papers", "Denial"): ("__eq__",),
     ("boards", "Board"): ("__eq__", "is_passed"),
     ("stands", "Stand"): ("__eq__", "__str__", "read"),
+    ("burners", "Told"): ("burns",),
+    ("burners", "Ahead"): ("burns",),
+    ("burners", "Ring"): ("burns",),
+    ("burners", "Block"): ("burns",),
+    ("burners", "Looker"): ("burns",),
+    ("burners", "Asked"): ("burns",),
+    ("strips", "Strip"): ("__eq__",),
 }
-PAPERS = ("Paper", "Denial", "Best", "Flight")
-DENIALS = ("Denial",)
+PAPERS = ("Paper", "Denial", "Best", "Flight", "Blamed", "Through", "Shut")
+DENIALS = ("Denial", "Shut")
 
 
 def listed(table):
