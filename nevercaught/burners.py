@@ -3,7 +3,7 @@
 from nevercaught.best import best_squares
 from nevercaught.checks import are_squares, taken_burns, taken_number, taken_square
 from nevercaught.errors import BadBurns, BadSquares
-from nevercaught.flights import Flight, turn_on
+from nevercaught.flights import Flight, padded, turn_on
 from nevercaught.stands import board_ahead, check_stand, start, steps_along, taken_pace, taken_turn
 
 
@@ -110,11 +110,6 @@ def match(burner, turns, pace=1):
         stands.append(stand)
         walls.append(best)
     return Flight(stands, walls)
-
-
-def padded(burns, pace):
-    """The burns, and None for what they lack of the pace."""
-    return tuple(burns) + (None,) * (pace - len(burns))
 
 
 def block_at(corner, wide):

@@ -33,6 +33,16 @@ def are_squares(value):
     return len({(item[0], item[1]) for item in value}) == len(value)
 
 
+def is_burn(value):
+    """Whether the value is a square or None."""
+    return value is None or is_square(value)
+
+
+def are_burns(value):
+    """Whether the value is a list or tuple of burns."""
+    return isinstance(value, (list, tuple)) and all([is_burn(item) for item in value])
+
+
 def squares_of(values):
     """The ascending tuple of several squares."""
     return taken_squares(values, "values")
@@ -65,11 +75,21 @@ def taken_squares(squares, part):
 
 def taken_burns(burns, part):
     """The row of burns that was passed for this parameter, as a tuple."""
-    if not isinstance(burns, (list, tuple)):
+    if not are_burns(burns):
         raise BadBurns(part)
-    if not all([burn is None or is_square(burn) for burn in burns]):
-        raise BadBurns(part)
-    return tuple([None if burn is None else (burn[0], burn[1]) for burn in burns])
+    return tuple([burn_in(burn) for burn in burns])
+
+
+def burn_in(burn):
+    """A burn, a square being told as a tuple."""
+    return None if burn is None else (burn[0], burn[1])
+
+
+def taken_burn(burn, part):
+    """The burn that was passed for this parameter."""
+    if not is_burn(burn):
+        raise BadSquare(part)
+    return burn_in(burn)
 
 
 def taken_number(number, least, most, part):

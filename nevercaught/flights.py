@@ -50,6 +50,11 @@ def turns_in(row, pace):
     return [row[at:at + pace] for at in range(0, len(row), pace)]
 
 
+def padded(burns, many):
+    """The burns, and None for what they lack of so many."""
+    return tuple(burns) + (None,) * (many - len(burns))
+
+
 def turn_on(stand, burns):
     """The Stand of the next turn, with these burns, and the Best of its board."""
     board = board_ahead(stand, burns)

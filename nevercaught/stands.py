@@ -5,7 +5,7 @@ from nevercaught.boards import Board, bars
 from nevercaught.checks import are_squares, is_square, is_within, taken_burns, taken_number, taken_squares
 from nevercaught.errors import BadStand, BadText, Misfit, TooMany
 from nevercaught.lines import SIDES, UP, behind, in_ground, sides_of, step_of
-from nevercaught.texts import integer_at, items_of, square_at, square_text
+from nevercaught.texts import check_bar, check_end, integer_at, items_of, number_at, square_at, square_text
 
 MOST_PACE = 12
 
@@ -56,8 +56,7 @@ class Stand:
         wall, at = lot_at(items, 8, 0)
         passed, at = lot_at(items, at, None)
         burnt, at = lot_at(items, at, None)
-        if at < len(items):
-            raise BadText(0, at)
+        check_end(items, at)
         try:
             return Stand(pace, turn, square, corner, heading, wall, passed, burnt)
         except Misfit:
@@ -72,8 +71,7 @@ def start(pace=1):
 def flown(stand, burns):
     """The Stand of the next turn."""
     check_stand(stand)
-    board = board_ahead(stand, taken_turn(burns, stand.pace))
-    return gone_on(stand, best_squares(board), board.burnt)
+    return one_on(stand, taken_turn(burns, stand.pace))
 
 
 def way_of(stand):
@@ -108,6 +106,12 @@ def board_ahead(stand, burns):
         if burn is not None and burn != stand.square:
             fires[burn] = True
     return Board(stand.wall, stand.passed, list(fires))
+
+
+def one_on(stand, burns):
+    """The Stand of the next turn, if it has these burns."""
+    board = board_ahead(stand, burns)
+    return gone_on(stand, best_squares(board), board.burnt)
 
 
 def steps_along(stand, wall, many):
@@ -171,14 +175,6 @@ def lot_text(squares):
     return " ".join(["/"] + [square_text(square) for square in squares])
 
 
-def number_at(items, at, least, most):
-    """The integer written at this index, which is within these bounds."""
-    number = integer_at(items, at)
-    if not is_within(number, least, most):
-        raise BadText(0, at)
-    return number
-
-
 def heading_at(items, at):
     """The heading written from this index on."""
     x = number_at(items, at, -1, 1)
@@ -190,8 +186,7 @@ def heading_at(items, at):
 
 def lot_at(items, at, least):
     """The squares behind the bar at this index, none with an x below the least, and the index behind them."""
-    if at >= len(items) or items[at] != "/":
-        raise BadText(0, at)
+    check_bar(items, at)
     squares = []
     at += 1
     while at < len(items) and items[at] != "/":

@@ -1,8 +1,7 @@
 """Walls: their length, their cost, which one is better, and their texts."""
 
 from nevercaught.checks import check_right, taken_number, taken_right, taken_squares
-from nevercaught.errors import BadText
-from nevercaught.texts import items_of, square_at, square_text
+from nevercaught.texts import check_bar, check_end, items_of, square_at, square_text
 
 
 def length_of(wall):
@@ -66,13 +65,11 @@ def wall_read(text):
     """The wall whose text this is."""
     items = items_of(text)
     if items[0] == "-":
-        if len(items) > 1:
-            raise BadText(0, 1)
+        check_end(items, 1)
         return ()
     squares = [square_at(items, 0, None, 0)]
     for at in range(2, len(items), 3):
-        if items[at] != "/":
-            raise BadText(0, at)
+        check_bar(items, at)
         squares.append(square_at(items, at + 1, squares[-1], 0))
     return tuple(squares)
 

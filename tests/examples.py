@@ -244,4 +244,72 @@ raises Misfit('flights')
 [True, False, False, True, False]
 ''',
     ),
+    (
+        "climbers",
+        '''\
+>>> [combs_for(1), height_for(1), combs_for(2), height_for(2) == 2 ** 41, height_for(3) == 2 ** 120]
+[5, 256, 33, True, True]
+>>> [reach_of(1, (0, 0)), reach_of(1, (7, 250)), turns_for(2, (0, 0), (5, 6)), turns_for(2, (0, 0), (13, 6)), turns_for(2, (0, 0), (1, 0))]
+[(-256, 256), (1, 13), (3, 6), None, None]
+>>> reach_of(1, (0, 256))
+raises Misfit('square')
+''',
+    ),
+    (
+        "climbs",
+        '''\
+>>> climb = begun(1)
+>>> [climb.power, climb.turn, climb.square, climb.origins, climb.lasted, burn_of(climb), due_of(climb)]
+[1, 0, (0, 0), ((0, 0),), (0,), (-255, 256), 103]
+>>> there = moved(climb, 100, (30, 100))
+>>> [there.turn, there.lasted, burn_of(there), [is_burnt(there, square) for square in ((240, 256), (245, 256), (1, 256), (0, 255))]]
+[100, (100,), (245, 256), [True, False, False, False]]
+>>> half = moved(there, 28, [30, 128])
+>>> [half.origins, half.lasted, burn_of(half), due_of(half), is_burnt(half, (-255, 256)), is_burnt(half, (260, 256))]
+[((0, 0), (30, 128)), (128, 0), (-94, 256), 51, True, False]
+>>> moved(half, 65, (30, 193))
+raises Misfit('square')
+>>> up = moved(moved(moved(moved(half, 64, (0, 192)), 32, (0, 224)), 16, (0, 240)), 8, (0, 248))
+>>> end = moved(up, 7, (0, 255))
+>>> [is_caught(up), burn_of(up), end.lasted, is_caught(end), [is_burnt(end, (x, 256)) for x in (-1, 0, 1)]]
+[False, None, (128, 64, 32, 16, 8, 7), True, [True, True, True]]
+''',
+    ),
+    (
+        "check_climbs",
+        '''\
+>>> [judged(end) == Caught(end.origins, end.lasted, (0, 255)), bool(judged(up)), [shows_judged(up, Free(square)) for square in ([1, 249], (0, 250), (0, 248), (-1, 249))]]
+[True, False, [True, False, False, True]]
+>>> plain = Caught([(0, 0), (0, 128), (0, 192), (0, 224), (0, 240), (0, 248)], [128, 64, 32, 16, 8, 7], (0, 255))
+>>> [shows_climb(1, plain), shows_climb(1, judged(end)), shows_climb(2, plain), shows_climb(1, Caught(plain.origins, [128, 64, 32, 16, 7, 8], (0, 255)))]
+[True, True, False, False]
+''',
+    ),
+    (
+        "seats",
+        '''\
+>>> here, there = Seat(0, 2, 3, 2), Seat(1, 2, 3, 2)
+>>> letter = here.decide((0, 3))
+>>> [letter, there.decide(None), there.tick().square, there.tick().square, there.settled, there.asks()]
+[(1, 0, (0, 3)), (1, 1, None), (0, 4), (0, 8), 0, ((1, 0), (2, 0))]
+>>> [there.hears(letter), there.shown.square, there.settled, there.backs, there.rerun, there.asks(), there.sure().square, [stand.turn for stand in there.kept]]
+[True, (0, 6), 1, 1, 2, ((2, 0),), (1, 3), [0, 2]]
+>>> [there.hears([1, 0, [0, 3]]), there.own, there.decide((0, 6)), there.shown.square, there.backs, there.rerun, there.known]
+[False, 2, (2, 1, (0, 6)), (0, 7), 2, 4, ((1, 0, (0, 3)), (1, 1, None), (2, 1, (0, 6)))]
+>>> [str(there), Seat.read(str(there)) == there, there.hears((2, 0, None)), there.backs, there.settled]
+['1 2 3 2 2 2 4 / 1 0 0 3 / 1 1 - / 2 1 0 6', True, True, 2, 2]
+>>> there.hears((1, 0, None))
+raises Twice((1, 0))
+>>> there.hears((3, 1, None))
+raises Misfit('turn')
+>>> there.hears((1, 2, None))
+raises Misfit('seat')
+>>> here.hears((61, 1, None))
+raises BadBurns('letter')
+>>> Seat(2, 2, 3, 2)
+raises Misfit('number')
+>>> Seat.read("1 2 0 2 1 0 0")
+raises BadText(0, 6)
+''',
+    ),
 )

@@ -25,7 +25,8 @@ def answer_to(code, names):
         exec(code, names)
         return []
     try:
-        return [repr(eval(made, names))]
+        value = eval(made, names)
+        return [] if value is None else [repr(value)]
     except ValueError as error:
         return ["raises " + repr(error)]
 
@@ -42,7 +43,7 @@ class Examples(unittest.TestCase):
                 with self.subTest(module=module, code=code):
                     self.assertEqual(answer_to(code, names), told)
                 count += 1
-        self.assertEqual(count, 88)
+        self.assertEqual(count, 116)
 
 
 if __name__ == "__main__":

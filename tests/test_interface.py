@@ -5,7 +5,6 @@ import inspect
 import unittest
 
 from nevercaught.papers import Denial, Paper
-from nevercaught.stands import Stand
 
 FUNCTIONS = {
     "checks": ("is_integer(value)", "is_within(value, least, most)", "is_square(value)", "are_squares(value)",
@@ -32,6 +31,10 @@ FUNCTIONS = {
     "strips": ("may_fly(strip, burnt, square)", "strip_burn(strip, burnt, square)", "strip_game(strip, column, flights)",
                "passage(strip, column)"),
     "check_strips": ("shows_passage(strip, column, value)",),
+    "climbers": ("combs_for(power)", "height_for(power)", "reach_of(power, square)", "turns_for(power, square, goal)"),
+    "climbs": ("begun(power)", "moved(climb, turns, square)", "burn_of(climb)", "due_of(climb)", "is_burnt(climb, square)",
+               "is_caught(climb)"),
+    "check_climbs": ("judged(climb)", "shows_judged(climb, value)", "shows_climb(power, value)"),
 }
 CLASSES = {
     "papers": ("Paper(word, *parts)", "Denial(word, *parts)"),
@@ -43,6 +46,8 @@ CLASSES = {
     "burners": ("Burner()", "Told(row)", "Ahead(steps)", "Ring(middle, size)", "Block(corner, wide)", "Looker(tries, deep)",
                 "Asked(ask)"),
     "strips": ("Strip(wide, power, far)", "Through(flights)", "Shut(turns)"),
+    "check_climbs": ("Caught(origins, lasted, square)", "Free(square)"),
+    "seats": ("Seat(number, many, lead, every)",),
 }
 METHODS = {
     ("papers", "Paper"): ("__eq__",),
@@ -56,9 +61,20 @@ METHODS = {
     ("burners", "Looker"): ("burns",),
     ("burners", "Asked"): ("burns",),
     ("strips", "Strip"): ("__eq__",),
+    ("climbs", "Climb"): ("__eq__",),
+    ("seats", "Seat"): ("__eq__", "__str__", "read", "decide", "hears", "tick", "asks", "sure"),
 }
-PAPERS = ("Paper", "Denial", "Best", "Flight", "Blamed", "Through", "Shut")
-DENIALS = ("Denial", "Shut")
+TAKEN = {
+    "is_passed": "(self, square)",
+    "burns": "(self, stand)",
+    "decide": "(self, burn)",
+    "hears": "(self, letter)",
+    "tick": "(self)",
+    "asks": "(self)",
+    "sure": "(self)",
+}
+PAPERS = ("Paper", "Denial", "Best", "Flight", "Blamed", "Through", "Shut", "Caught", "Free")
+DENIALS = ("Denial", "Shut", "Free")
 
 
 def listed(table):
@@ -94,14 +110,19 @@ class Interface(unittest.TestCase):
             self.assertEqual(issubclass(found, Denial), name in DENIALS)
 
     def test_read_is_asked_of_the_class(self):
-        self.assertIsInstance(vars(Stand)["read"], (staticmethod, classmethod))
-        self.assertEqual(str(inspect.signature(Stand.read)), "(text)")
+        for (module, name), methods in METHODS.items():
+            found = getattr(importlib.import_module("nevercaught." + module), name)
+            self.assertEqual("read" in vars(found), "read" in methods)
+            if "read" in methods:
+                self.assertIsInstance(vars(found)["read"], (staticmethod, classmethod))
+                self.assertEqual(str(inspect.signature(found.read)), "(text)")
 
     def test_methods_take_what_is_listed(self):
         for (module, name), methods in METHODS.items():
-            if "burns" in methods:
-                found = getattr(importlib.import_module("nevercaught." + module), name)
-                self.assertEqual(str(inspect.signature(found.burns)), "(self, stand)")
+            found = getattr(importlib.import_module("nevercaught." + module), name)
+            for method in methods:
+                if method not in ("read", "__eq__", "__str__"):
+                    self.assertEqual(str(inspect.signature(getattr(found, method))), TAKEN[method])
 
 
 if __name__ == "__main__":
