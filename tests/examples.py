@@ -312,4 +312,87 @@ raises Misfit('number')
 raises BadText(0, 6)
 ''',
     ),
+    (
+        "roads",
+        '''\
+>>> house = House(2, 3, 2)
+>>> [house.decide(0, (0, 3)), house.decide(1, None), house.road.letters]
+[(1, 0, (0, 3)), (1, 1, None), ((1, (1, 0, (0, 3))), (0, (1, 1, None)))]
+>>> [house.tick(1).square, house.lose(0), house.ask(1), house.road.letters, house.twice(1), house.bring(1), len(house.road)]
+[(0, 4), (1, (1, 0, (0, 3))), 1, ((0, (1, 1, None)), (1, (1, 0, (0, 3)))), True, False, 1]
+>>> [house.seats[1].settled, house.seats[0].settled, house.settle(), house.tick(0).square, house.tick(1).square, house.tick(0) == house.seats[1].shown]
+[1, 0, (1, 1), (1, 3), (0, 6), True]
+>>> house.bring(0)
+raises BadNumber('index')
+''',
+    ),
+    (
+        "check_seats",
+        '''\
+>>> [story_of(house.seats).parts, shows_story(house.seats, Story([[0, 3], None], [1, 1])), parted_at(house.seats[0], house.seats[1])]
+[(((0, 3), None), (1, 1)), True, None]
+>>> other = Seat.read("0 2 3 2 1 0 0 / 1 0 -")
+>>> [parted_at(there, other), story_of([other, there]).parts]
+[1, (1, 0)]
+''',
+    ),
+    (
+        "pictures",
+        '''\
+>>> burns = [(0, 5), (0, 3), None, None]
+>>> stands = flight(burns).stands
+>>> [stand.square for stand in stands]
+[(0, 0), (0, 2), (1, 3), (1, 5), (0, 6)]
+>>> picture(stands[2], (-1, 2), (2, 6))
+('|...', '|#..', '|+..', '|#@.', '|*..')
+>>> picture(start(), (-2, -1), (1, 1))
+('||..', '||@.', '||*.')
+>>> picture(start(), (0, 0), (1, -1))
+raises Misfit('box')
+''',
+    ),
+    (
+        "films",
+        '''\
+>>> film = Film(burns)
+>>> [str(film), str(Film([])), Film.read("burns - / 7 -2").burns, film.cut(1).burns, str(film.cut(1).joined(Film([None])))]
+['burns 0 5 / 0 3 / - / -', 'burns', (None, (7, -2)), ((0, 5),), 'burns 0 5 / -']
+>>> [film.stand(3).square, film.frames((0, 2), (1, 3))[1:3], parting(film, film.cut(1).joined(Film([None, None]))), parting(film, film.cut(2))]
+[(1, 5), (('..', '@.'), ('#@', '*.')), 2, None]
+>>> quick = Film([(0, 5), (0, 3), None], 2)
+>>> [str(quick), quick.turns, [quick.stand(turn).square for turn in (0, 1, 2)], quick.cut(1).burns, quick.joined(quick).burns[3:]]
+['pace 2 burns 0 5 / 0 3 / -', 2, [(0, 0), (1, 3), (0, 6)], ((0, 5), (0, 3)), (None, (0, 5), (0, 3), None)]
+>>> Film.read("burns 0 5 / 0")
+raises BadText(0, 5)
+>>> Film.read("burns - 0")
+raises BadText(0, 2)
+>>> Film.read("pace 1 burns")
+raises BadText(0, 1)
+>>> film.cut(5)
+raises BadNumber('turns')
+''',
+    ),
+    (
+        "desks",
+        '''\
+>>> desk = Desk()
+>>> [desk.tell(line) for line in ("open one", "burn one 0 5", "copy two one", "burn one 0 3", "burn two -", "film one", "where two 2")]
+['opened', '0 2', 'copied', '1 3', '0 4', 'burns 0 5 / 0 3', '0 4']
+>>> [desk.tell("show one 2 -1 2 2 6"), desk.names(), desk.kept("two") == Film([(0, 5), None])]
+['|... |#.. |+.. |#@. |*..', ('one', 'two'), True]
+>>> desk.back()
+>>> [str(desk.kept("two")), desk.done()[-1]]
+['burns 0 5', 'burn one 0 3']
+>>> [desk.tell(line) for line in ("open quick 3", "burn quick 0 5 / 0 3", "film quick")]
+['opened', '1 5', 'pace 3 burns 0 5 / 0 3 / -']
+>>> desk.tell("copy one two")
+raises Twice('one')
+>>> desk.tell("burn two 1 1 / -")
+raises TooMany('burns', 1)
+>>> desk.tell("where two 2")
+raises Misfit('turn')
+>>> desk.tell("burn one 0")
+raises BadText(0, 3)
+''',
+    ),
 )

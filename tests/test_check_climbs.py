@@ -213,7 +213,7 @@ class AnyClimb(unittest.TestCase):
                     told[1][at] += change
                 elif at:
                     x, y = origins[at]
-                    told[0][at] = (x + change, y + source.choice((0, 0, 1)))
+                    told[0][at] = (x + change, y + source.choice((0, 0, 1, -1)))
                 else:
                     told[2] = (square[0] + change, square[1])
                 right = self.goes(climb.power, *told)

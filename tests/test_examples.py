@@ -43,7 +43,7 @@ class Examples(unittest.TestCase):
                 with self.subTest(module=module, code=code):
                     self.assertEqual(answer_to(code, names), told)
                 count += 1
-        self.assertEqual(count, 116)
+        self.assertEqual(count, 149)
 
 
 if __name__ == "__main__":

@@ -4,7 +4,13 @@ import importlib
 import inspect
 import unittest
 
+from nevercaught.climbs import begun
+from nevercaught.films import Film
 from nevercaught.papers import Denial, Paper
+from nevercaught.roads import House, Road
+from nevercaught.seats import Seat
+from nevercaught.stands import start
+from nevercaught.strips import Strip
 
 FUNCTIONS = {
     "checks": ("is_integer(value)", "is_within(value, least, most)", "is_square(value)", "are_squares(value)",
@@ -35,6 +41,9 @@ FUNCTIONS = {
     "climbs": ("begun(power)", "moved(climb, turns, square)", "burn_of(climb)", "due_of(climb)", "is_burnt(climb, square)",
                "is_caught(climb)"),
     "check_climbs": ("judged(climb)", "shows_judged(climb, value)", "shows_climb(power, value)"),
+    "check_seats": ("story_of(seats)", "shows_story(seats, value)", "parted_at(one, other)"),
+    "pictures": ("picture(stand, low, high)",),
+    "films": ("parting(one, other)",),
 }
 CLASSES = {
     "papers": ("Paper(word, *parts)", "Denial(word, *parts)"),
@@ -48,6 +57,10 @@ CLASSES = {
     "strips": ("Strip(wide, power, far)", "Through(flights)", "Shut(turns)"),
     "check_climbs": ("Caught(origins, lasted, square)", "Free(square)"),
     "seats": ("Seat(number, many, lead, every)",),
+    "roads": ("Road()", "House(many, lead, every)"),
+    "check_seats": ("Story(burns, settled)", "Split(turn, seat)"),
+    "films": ("Film(burns, pace=1)",),
+    "desks": ("Desk()",),
 }
 METHODS = {
     ("papers", "Paper"): ("__eq__",),
@@ -63,18 +76,46 @@ METHODS = {
     ("strips", "Strip"): ("__eq__",),
     ("climbs", "Climb"): ("__eq__",),
     ("seats", "Seat"): ("__eq__", "__str__", "read", "decide", "hears", "tick", "asks", "sure"),
+    ("roads", "Road"): ("__len__", "put", "take"),
+    ("roads", "House"): ("decide", "tick", "bring", "twice", "lose", "ask", "settle"),
+    ("films", "Film"): ("__eq__", "__str__", "read", "cut", "joined", "stand", "frames"),
+    ("desks", "Desk"): ("tell", "names", "kept", "back", "again", "done", "read"),
 }
+# What each method takes, beside its own object; nothing where nothing is told, and what a class takes otherwise.
 TAKEN = {
-    "is_passed": "(self, square)",
-    "burns": "(self, stand)",
-    "decide": "(self, burn)",
-    "hears": "(self, letter)",
-    "tick": "(self)",
-    "asks": "(self)",
-    "sure": "(self)",
+    "is_passed": "square",
+    "burns": "stand",
+    "decide": "burn",
+    "hears": "letter",
+    "put": "number, letter",
+    "take": "index",
+    "bring": "index",
+    "twice": "index",
+    "lose": "index",
+    "ask": "number",
+    "cut": "turns",
+    "joined": "other",
+    "stand": "turn",
+    "frames": "low, high",
+    "tell": "line",
+    "kept": "name",
+    "read": "text",
+    "__eq__": "other",
 }
-PAPERS = ("Paper", "Denial", "Best", "Flight", "Blamed", "Through", "Shut", "Caught", "Free")
-DENIALS = ("Denial", "Shut", "Free")
+TAKEN_BY = {("House", "decide"): "number, burn", ("House", "tick"): "number", ("Desk", "read"): "lines"}
+PAPERS = ("Paper", "Denial", "Best", "Flight", "Blamed", "Through", "Shut", "Caught", "Free", "Story",
+          "Split")
+DENIALS = ("Denial", "Shut", "Free", "Split")
+
+ATTRIBUTES = (
+    (begun(1), "power turn square origins lasted"),
+    (Seat(0, 1, 0, 1), "number many lead every settled shown known kept own backs rerun"),
+    (Road(), "letters"),
+    (House(1, 0, 1), "seats road"),
+    (Film([]), "burns pace turns"),
+    (Strip(1, 1, 1), "wide power far"),
+    (start(), "pace turn square corner heading wall passed burnt"),
+)
 
 
 def listed(table):
@@ -115,14 +156,19 @@ class Interface(unittest.TestCase):
             self.assertEqual("read" in vars(found), "read" in methods)
             if "read" in methods:
                 self.assertIsInstance(vars(found)["read"], (staticmethod, classmethod))
-                self.assertEqual(str(inspect.signature(found.read)), "(text)")
 
     def test_methods_take_what_is_listed(self):
         for (module, name), methods in METHODS.items():
             found = getattr(importlib.import_module("nevercaught." + module), name)
             for method in methods:
-                if method not in ("read", "__eq__", "__str__"):
-                    self.assertEqual(str(inspect.signature(getattr(found, method))), TAKEN[method])
+                takes = TAKEN_BY.get((name, method), TAKEN.get(method, ""))
+                told = ", ".join(inspect.signature(getattr(found, method)).parameters)
+                self.assertEqual(told, takes if method == "read" else ", ".join(["self", takes]).rstrip(", "), (name, method))
+
+    def test_attributes_are_set_when_an_object_is_made(self):
+        for made, names in ATTRIBUTES:
+            for word in names.split():
+                self.assertTrue(hasattr(made, word), (made, word))
 
 
 if __name__ == "__main__":

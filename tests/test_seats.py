@@ -267,6 +267,9 @@ class Bounds(Compared):
         early.tick()
         self.assertEqual(seating.parts(late)[:9], seating.parts(early)[:9])
         self.assertFalse(late == early)
+        counts = [Seat.read(f"0 1 0 1 0 {backs} {rerun}") for backs in range(2) for rerun in range(2)]
+        for at, one in enumerate(counts):
+            self.assertEqual([one == other for other in counts], [at == other for other in range(4)])
 
     def test_what_is_told_stays(self):
         seat, letter = Seat(0, 2, 3, 2), [1, 1, [0, 3]]
